@@ -1,0 +1,175 @@
+"""What the tests share: numbers as bits, a list that may not be changed, and the promises told a second time.
+
+The second telling is made of fractions and of Python's own doubles, so that it has nothing in common with the
+package's arithmetic.
+"""
+
+import math
+import random
+import struct
+from fractions import Fraction
+
+MINUS = 0x80000000
+ONE = 0x3F800000
+GREATEST = 0x7F7FFFFF
+INFINITE = 0x7F800000
+NO_NUMBERS = (0x7F800001, 0x7FC00000, 0x7FFFFFFF, 0xFF800001, 0xFFC00000, 0xFFFFFFFF)
+WRONG_COUNTS = (-1, 4097, -2147483648, 2147483647)
+
+DOUBLE_MINUS = 0x8000000000000000
+DOUBLE_ONE = 0x3FF0000000000000
+DOUBLE_INFINITE = 0x7FF0000000000000
+DOUBLE_NO_NUMBERS = (
+    0x7FF0000000000001, 0x7FF8000000000000, 0x7FFFFFFFFFFFFFFF,
+    0xFFF0000000000001, 0xFFF8000000000000, 0xFFFFFFFFFFFFFFFF,
+)
+
+
+def single(value):
+    """The bits of a value that is a single already."""
+    bits = struct.unpack("<I", struct.pack("<f", value))[0]
+    if value_of(bits) != value:
+        raise ValueError("not a single")
+    return bits
+
+
+def double(value):
+    return struct.unpack("<Q", struct.pack("<d", value))[0]
+
+
+def value_of(bits):
+    return struct.unpack("<f", struct.pack("<I", bits))[0]
+
+
+def double_value_of(bits):
+    return struct.unpack("<d", struct.pack("<Q", bits))[0]
+
+
+def nearest_single(exact):
+    """The single nearest to a fraction other than 0: the best of a guess and its neighbours."""
+    size = abs(exact)
+    sign = MINUS if exact < 0 else 0
+    if size >= Fraction(2) ** 128 - Fraction(2) ** 103:
+        return sign | INFINITE
+    guess = min(struct.unpack("<I", struct.pack("<f", min(float(size), value_of(GREATEST))))[0], GREATEST)
+    near = [bits for bits in (guess - 1, guess, guess + 1) if 0 <= bits <= GREATEST]
+    return sign | min(near, key=lambda bits: (abs(Fraction(value_of(bits)) - size), bits % 2))
+
+
+def model_fma(x, y, z):
+    """x y + z for the values of singles. A product of two is exact as a double, so zeros and infinities are right."""
+    plain = x * y + z
+    if not (math.isfinite(x) and math.isfinite(y) and math.isfinite(z)):
+        return plain
+    exact = Fraction(x) * Fraction(y) + Fraction(z)
+    return plain if exact == 0 else value_of(nearest_single(exact))
+
+
+def model_times(x, y):
+    return model_fma(x, y, math.copysign(0.0, -1.0))
+
+
+def model_told(value):
+    return -1 if math.isnan(value) else struct.unpack("<I", struct.pack("<f", value))[0]
+
+
+def model_turn(turning, point, n):
+    a, b = [value_of(bits) for bits in turning]
+    c, s = [value_of(bits) for bits in point]
+    row = []
+    for _ in range(n):
+        row.append(model_told(s))
+        c, s = model_fma(c, a, -model_times(s, b)), model_fma(c, b, model_times(s, a))
+    return [0, n] + row + [2, model_told(c), model_told(s)]
+
+
+def model_table(entries, step, place, n):
+    step, place = double_value_of(step), double_value_of(place)
+    row = []
+    for _ in range(n):
+        x = place * len(entries)
+        above = x - math.copysign(math.floor(x), x)
+        f = value_of(nearest_single(Fraction(above))) if above else above
+        u = value_of(entries[math.floor(x) % len(entries)])
+        w = value_of(entries[(math.floor(x) + 1) % len(entries)])
+        row.append(model_told(model_fma(f, model_fma(w, 1.0, -u), u)))
+        q = place + step
+        place = q - (math.floor(q) if q else q)
+    return [0, n] + row + [1, double(place)]
+
+
+def model_heights(slopes, stage, v, n):
+    rise, fall, height, end = [value_of(bits) for bits in slopes]
+    v = value_of(v)
+    row = []
+    for _ in range(n):
+        if stage == 1:
+            v = model_fma(v, 1.0, rise)
+            if v >= 1.0:
+                v, stage = 1.0, 2
+        elif stage == 2:
+            v = model_fma(v, 1.0, -fall)
+            if height >= v:
+                v, stage = height, 3
+        elif stage == 4:
+            v = model_fma(v, 1.0, -end)
+            if 0.0 >= v:
+                v, stage = 0.0, 0
+        elif stage == 0:
+            v = 0.0
+        row.append(model_told(v))
+    return [0, n] + row + [1, model_told(v), 1, stage]
+
+
+class Numbers:
+    """A row of numbers of all sorts, the same at each run."""
+
+    def __init__(self, seed):
+        self.source = random.Random(seed)
+
+    def single(self):
+        pick = self.source.randrange(8)
+        sign = self.source.choice((0, MINUS))
+        if pick == 0:
+            return self.source.choice((0, MINUS, ONE, INFINITE, INFINITE | MINUS, 0x7FC00000, 1, 0x00800000, GREATEST))
+        if pick == 1:
+            return self.source.getrandbits(32)
+        if pick == 2:
+            return sign | self.source.randrange(0x00000000, 0x01800000)
+        if pick == 3:
+            return sign | self.source.randrange(0x1E000000, 0x21000000)
+        if pick == 4:
+            return sign | self.source.randrange(0x7E000000, 0x7F800000)
+        return sign | self.source.randrange(0x3C000000, 0x40800000)
+
+    def singles(self, count):
+        return [self.single() for _ in range(count)]
+
+    def fraction_double(self):
+        """A double from 0 to below 1."""
+        least = self.source.choice((0, 0x3C00000000000000, 0x3FA0000000000000, DOUBLE_ONE - 4))
+        return self.source.randrange(least, DOUBLE_ONE)
+
+    def below(self, count):
+        return self.source.randrange(count)
+
+
+class ReadOnly(list):
+    """A list that fails where it is changed, be it for a while only."""
+
+    def refuse(self, *given, **named):
+        raise AssertionError("what was handed in is changed")
+
+    __setitem__ = __delitem__ = __iadd__ = __imul__ = refuse
+    append = extend = insert = pop = remove = clear = sort = reverse = refuse
+
+
+def check_call(case, call, given, expected):
+    """Calls twice, with lists that may not be changed; each answer is to be expected's very numbers."""
+    handed = [ReadOnly(numbers) for numbers in given]
+    for _ in range(2):
+        answer = call(*handed)
+        case.assertIs(type(answer), list)
+        case.assertEqual({int}, {type(number) for number in answer})
+        case.assertEqual(expected, answer)
+    case.assertEqual(given, [list(numbers) for numbers in handed])
