@@ -121,6 +121,39 @@ def model_heights(slopes, stage, v, n):
     return [0, n] + row + [1, model_told(v), 1, stage]
 
 
+def model_filtered(factors, kept, given):
+    b0, b1, b2, a1, a2 = [value_of(bits) for bits in factors]
+    z1, z2 = [value_of(bits) for bits in kept]
+    row = []
+    for x in [value_of(bits) for bits in given]:
+        y = model_fma(b0, x, z1)
+        z1 = model_fma(b1, x, model_fma(-a1, y, z2))
+        z2 = model_fma(-a2, y, model_times(b2, x))
+        row.append(model_told(y))
+    return [0, len(row)] + row + [2, model_told(z1), model_told(z2)]
+
+
+def model_string(damp, string, at, n):
+    held = [value_of(bits) for bits in string]
+    row = []
+    for _ in range(n):
+        row.append(model_told(held[at]))
+        total = model_fma(held[at], 1.0, held[(at + 1) % len(held)])
+        held[at] = model_times(model_times(total, 0.5), value_of(damp))
+        at = (at + 1) % len(held)
+    return [0, n] + row + [len(held)] + [model_told(value) for value in held] + [1, at]
+
+
+def model_mix(gains, n, rows):
+    row = []
+    for place in range(n):
+        total = 0.0
+        for k, gain in enumerate(gains):
+            total = model_fma(value_of(gain), value_of(rows[k * n + place]), total)
+        row.append(model_told(total))
+    return [0, n] + row
+
+
 class Numbers:
     """A row of numbers of all sorts, the same at each run."""
 

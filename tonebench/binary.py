@@ -34,6 +34,11 @@ def is_infinite(form, x):
     return magnitude(form, x) == form[INFINITY]
 
 
+def is_finite(form, x):
+    """Whether x is neither infinite nor no number."""
+    return x & form[INFINITY] != form[INFINITY]
+
+
 def told(form, x):
     """x as it stands in an answer: -1 for whatever is no number."""
     return -1 if is_no_number(form, x) else x
@@ -84,8 +89,9 @@ def finite_fma(form, x, y, z):
     """x y + z rounded once, where all three are finite."""
     product = digits(form, x) * digits(form, y)
     e = exponent(form, x) + exponent(form, y)
-    last = min(e, exponent(form, z))
-    total = (product << (e - last)) + (digits(form, z) << (exponent(form, z) - last))
+    low = exponent(form, z)
+    last = min(e, low)
+    total = (product << (e - last)) + (digits(form, z) << (low - last))
     # A sum that is just 0 has a minus only where both of its parts have one.
     return rounded(form, total, last, (x ^ y) & z & form[MINUS])
 
@@ -101,18 +107,23 @@ def infinite_fma(form, x, y, z):
 
 def fma(form, x, y, z):
     """x y + z, rounded once."""
+    if is_finite(form, x) and is_finite(form, y) and is_finite(form, z):
+        return finite_fma(form, x, y, z)
     if is_no_number(form, x) or is_no_number(form, y) or is_no_number(form, z):
         return form[INFINITY] + 1
     if is_infinite(form, x) or is_infinite(form, y):
         return infinite_fma(form, x, y, z)
-    if is_infinite(form, z):
-        return z
-    return finite_fma(form, x, y, z)
+    return z
 
 
 def fms(form, x, y, z):
     """x y - z, rounded once."""
     return fma(form, x, y, negated(form, z))
+
+
+def fnma(form, x, y, z):
+    """z - x y, rounded once."""
+    return fma(form, negated(form, x), y, z)
 
 
 def multiply(form, x, y):

@@ -1,16 +1,23 @@
 """The calls of the workshop: each takes lists of whole numbers and gives back one list of whole numbers."""
 
 from tonebench.binary import DOUBLE, ONE, SINGLE
-from tonebench.binary import add, double_of_whole, floor, fma, fms, less, multiply, negated, not_less
+from tonebench.binary import add, double_of_whole, floor, fma, less, multiply, negated, not_less
 from tonebench.binary import single_of_double, subtract, told, whole_below
+from tonebench.places import damped, next_height, through_filter, turned
 
-# The most places of a row.
+# The most places of a row, and the most rows that are mixed.
 MOST = 4096
+MOST_ROWS = 32
 
 
 def refusal():
     """What is answered where a call is refused."""
     return [-1]
+
+
+def told_singles(row):
+    """A row of singles as it stands in an answer."""
+    return [told(SINGLE, x) for x in row]
 
 
 def answer(parts):
@@ -22,16 +29,6 @@ def answer(parts):
     return numbers
 
 
-def turned(turning, c, s):
-    """The point (c, s) turned once."""
-    a = turning[0]
-    b = turning[1]
-    return (
-        fms(SINGLE, c, a, multiply(SINGLE, s, b)),
-        fma(SINGLE, c, b, multiply(SINGLE, s, a)),
-    )
-
-
 def turn(turning, point, n):
     """A tone by turning a point: its second part at each of n places, then the point."""
     if not 0 <= n[0] <= MOST:
@@ -39,9 +36,9 @@ def turn(turning, point, n):
     now = (point[0], point[1])
     row = []
     for place in range(n[0]):
-        row.append(told(SINGLE, now[1]))
+        row.append(now[1])
         now = turned(turning, now[0], now[1])
-    return answer([row, [told(SINGLE, now[0]), told(SINGLE, now[1])]])
+    return answer([told_singles(row), told_singles(now)])
 
 
 def table_fits(entries, step, place):
@@ -78,25 +75,9 @@ def table(entries, step, place, n):
     now = place[0]
     row = []
     for count in range(n[0]):
-        row.append(told(SINGLE, between_entries(entries, now)))
+        row.append(between_entries(entries, now))
         now = part_above_floor(add(DOUBLE, now, step[0]))
-    return answer([row, [now]])
-
-
-def next_height(slopes, stage, v):
-    """The height and the stage that follow upon v and its stage."""
-    if stage == 1:
-        risen = add(SINGLE, v, slopes[0])
-        return (SINGLE[ONE], 2) if not_less(SINGLE, risen, SINGLE[ONE]) else (risen, 1)
-    if stage == 2:
-        fallen = subtract(SINGLE, v, slopes[1])
-        return (slopes[2], 3) if not_less(SINGLE, slopes[2], fallen) else (fallen, 2)
-    if stage == 3:
-        return (v, 3)
-    if stage == 4:
-        fading = subtract(SINGLE, v, slopes[3])
-        return (0, 0) if not_less(SINGLE, 0, fading) else (fading, 4)
-    return (0, 0)
+    return answer([told_singles(row), [now]])
 
 
 def heights(slopes, stage, v, n):
@@ -107,5 +88,45 @@ def heights(slopes, stage, v, n):
     row = []
     for place in range(n[0]):
         now = next_height(slopes, now[1], now[0])
-        row.append(told(SINGLE, now[0]))
-    return answer([row, [told(SINGLE, now[0])], [now[1]]])
+        row.append(now[0])
+    return answer([told_singles(row), told_singles([now[0]]), [now[1]]])
+
+
+def filtered(factors, kept, given):
+    """A row through a filter: what comes of it, then what the filter keeps."""
+    if len(given) > MOST:
+        return refusal()
+    now = (0, kept[0], kept[1])
+    row = []
+    for x in given:
+        now = through_filter(factors, now[1], now[2], x)
+        row.append(now[0])
+    return answer([told_singles(row), told_singles(now[1:])])
+
+
+def string(damp, string, at, n):
+    """A plucked string: what stands on it at each of n places, then the string, then the place."""
+    size = len(string)
+    if not 0 <= n[0] <= MOST or not 1 <= size <= MOST or not 0 <= at[0] < size:
+        return refusal()
+    held = list(string)
+    now = at[0]
+    row = []
+    for count in range(n[0]):
+        following = (now + 1) % size
+        row.append(held[now])
+        held[now] = damped(damp[0], held[now], held[following])
+        now = following
+    return answer([told_singles(row), told_singles(held), [now]])
+
+
+def mix(gains, n, rows):
+    """Rows of n places, one behind another, each times its gain, as one row."""
+    size = n[0]
+    if not 0 <= size <= MOST or len(gains) > MOST_ROWS:
+        return refusal()
+    row = [0] * size
+    for k in range(len(gains)):
+        for place in range(size):
+            row[place] = fma(SINGLE, gains[k], rows[k * size + place], row[place])
+    return answer([told_singles(row)])
