@@ -14,6 +14,7 @@ ONE = 0x3F800000
 GREATEST = 0x7F7FFFFF
 INFINITE = 0x7F800000
 NO_NUMBERS = (0x7F800001, 0x7FC00000, 0x7FFFFFFF, 0xFF800001, 0xFFC00000, 0xFFFFFFFF)
+WRONG_LENGTHS = (4097, 4098, 4200)
 WRONG_COUNTS = (-1, 4097, -2147483648, 2147483647)
 
 DOUBLE_MINUS = 0x8000000000000000
@@ -154,6 +155,43 @@ def model_mix(gains, n, rows):
     return [0, n] + row
 
 
+def model_row(values):
+    return [0, len(values)] + [model_told(value) for value in values]
+
+
+def model_middle(pairs):
+    row = []
+    for left, right in zip(pairs[::2], pairs[1::2]):
+        row.append(model_times(model_fma(value_of(left), 1.0, value_of(right)), 0.5))
+        row.append(model_times(model_fma(value_of(left), 1.0, -value_of(right)), 0.5))
+    return model_row(row)
+
+
+def model_softened(x):
+    if x == 0 or not math.isfinite(x):
+        return x if x == 0 else math.nan
+    return value_of(nearest_single(Fraction(x) / Fraction(model_fma(abs(x), 1.0, 1.0))))
+
+
+def model_horner(factors, x):
+    total = value_of(factors[0])
+    for factor in factors[1:]:
+        total = model_fma(total, x, value_of(factor))
+    return total
+
+
+def model_level(x):
+    if not 0.0 < x < math.inf:
+        return math.nan
+    m, e = math.frexp(x)
+    p = model_horner((0xBDA0A581, 0x3F2043A5, 0xC0050372, 0x4080EF4D, 0xC01FE505), 2.0 * m)
+    return model_times(model_fma(p, 1.0, e - 1.0), value_of(0x40C0A8C1))
+
+
+def model_curve(curve, row):
+    return model_row([curve(value_of(bits)) for bits in row])
+
+
 class Numbers:
     """A row of numbers of all sorts, the same at each run."""
 
@@ -177,6 +215,11 @@ class Numbers:
 
     def singles(self, count):
         return [self.single() for _ in range(count)]
+
+    def beside_a_power(self):
+        """A power of two or one near it; or, at the ends, a least or a greatest number, or one past these."""
+        beside = self.source.randrange(256) << 23
+        return max(beside + self.source.randrange(-2, 3), 0) | self.source.choice((0, MINUS))
 
     def fraction_double(self):
         """A double from 0 to below 1."""

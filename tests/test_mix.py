@@ -2,7 +2,9 @@
 
 import unittest
 
-from model import GREATEST, INFINITE, MINUS, NO_NUMBERS, ONE, Numbers, check_call, model_mix, single
+from model import (
+    GREATEST, INFINITE, MINUS, NO_NUMBERS, ONE, WRONG_COUNTS, Numbers, check_call, model_mix, single,
+)
 from tonebench.tones import mix
 
 STEP = 2.0 ** -12
@@ -102,6 +104,10 @@ class Mix(unittest.TestCase):
         for count in (33, 34, 64):
             for n in (0, 1, 3):
                 check_call(self, mix, [[ONE] * count, [n], [ONE] * (count * n)], [-1])
+
+    def test_refused_counts_of_places(self):
+        for n in WRONG_COUNTS:
+            check_call(self, mix, [[], [n], []], [-1])
 
     def test_the_most_places(self):
         self.check([ONE], list(range(4096)), list(range(4096)))

@@ -39,6 +39,11 @@ def is_finite(form, x):
     return x & form[INFINITY] != form[INFINITY]
 
 
+def no_number(form):
+    """The bits of one that is no number."""
+    return form[INFINITY] + 1
+
+
 def told(form, x):
     """x as it stands in an answer: -1 for whatever is no number."""
     return -1 if is_no_number(form, x) else x
@@ -101,7 +106,7 @@ def infinite_fma(form, x, y, z):
     product = form[INFINITY] | ((x ^ y) & form[MINUS])
     zero_times = magnitude(form, x) == 0 or magnitude(form, y) == 0
     if zero_times or z == negated(form, product):
-        return form[INFINITY] + 1
+        return no_number(form)
     return product
 
 
@@ -110,7 +115,7 @@ def fma(form, x, y, z):
     if is_finite(form, x) and is_finite(form, y) and is_finite(form, z):
         return finite_fma(form, x, y, z)
     if is_no_number(form, x) or is_no_number(form, y) or is_no_number(form, z):
-        return form[INFINITY] + 1
+        return no_number(form)
     if is_infinite(form, x) or is_infinite(form, y):
         return infinite_fma(form, x, y, z)
     return z
@@ -140,6 +145,28 @@ def add(form, x, y):
 def subtract(form, x, y):
     """x - y."""
     return fms(form, x, form[ONE], y)
+
+
+def finite_quotient(form, x, y):
+    """x / y rounded once, where both are finite and y isn't 0."""
+    divisor = abs(digits(form, y))
+    # More digits than a number has are worked out, and one more behind them tells whether something is left over:
+    # that is all the rounding has to know of the rest.
+    more = divisor.bit_length() + form[WIDTH] + 2
+    size = abs(digits(form, x)) << more
+    quotient = size // divisor * 2
+    if size % divisor > 0:
+        quotient += 1
+    sign = (x ^ y) & form[MINUS]
+    return rounded(form, quotient, exponent(form, x) - exponent(form, y) - more - 1, 0) | sign
+
+
+def horner(form, factors, x):
+    """The polynomial of x with these factors, that of the highest power first, fma by fma."""
+    total = factors[0]
+    for factor in factors[1:]:
+        total = fma(form, total, x, factor)
+    return total
 
 
 def order(form, x):
@@ -174,9 +201,9 @@ def floor(x):
     return rounded(DOUBLE, whole_below(x), 0, x & DOUBLE[MINUS])
 
 
-def double_of_whole(m):
-    """A whole number as a double."""
-    return rounded(DOUBLE, m, 0, 0)
+def of_whole(form, m):
+    """The bits of a whole number."""
+    return rounded(form, m, 0, 0)
 
 
 def single_of_double(x):

@@ -1,9 +1,13 @@
 """What happens at one place of a row: each takes what stands there so far and gives what stands there then."""
 
 from tonebench.binary import ONE, SINGLE
-from tonebench.binary import add, fma, fms, fnma, multiply, not_less, subtract
+from tonebench.binary import add, digits, exponent, finite_quotient, fma, fms, fnma, horner, is_finite, less
+from tonebench.binary import magnitude, multiply, no_number, not_less, of_whole, rounded, subtract
 
 HALF = 0x3F000000
+
+LEVEL_FACTORS = (0xBDA0A581, 0x3F2043A5, 0xC0050372, 0x4080EF4D, 0xC01FE505)
+LEVEL_SCALE = 0x40C0A8C1
 
 
 def turned(turning, c, s):
@@ -50,3 +54,23 @@ def halved(x):
 def damped(damp, u, w):
     """What stands on a string in the place of u, where w is the next one."""
     return multiply(SINGLE, halved(add(SINGLE, u, w)), damp)
+
+
+def softened(x):
+    """x / (1 + |x|)."""
+    # What an infinite x would be divided by is infinite too.
+    if not is_finite(SINGLE, x):
+        return no_number(SINGLE)
+    return finite_quotient(SINGLE, x, add(SINGLE, SINGLE[ONE], magnitude(SINGLE, x)))
+
+
+def level(x):
+    """The level of a finite number above 0; of others no number."""
+    if not less(SINGLE, 0, x) or not is_finite(SINGLE, x):
+        return no_number(SINGLE)
+    # x is m * 2^e with m from 1 to below 2, for a number below the normal ones too.
+    size = digits(SINGLE, x)
+    power = size.bit_length() - 1
+    m = rounded(SINGLE, size, -power, 0)
+    e = of_whole(SINGLE, exponent(SINGLE, x) + power)
+    return multiply(SINGLE, add(SINGLE, horner(SINGLE, LEVEL_FACTORS, m), e), LEVEL_SCALE)

@@ -1,9 +1,9 @@
 """The calls of the workshop: each takes lists of whole numbers and gives back one list of whole numbers."""
 
 from tonebench.binary import DOUBLE, ONE, SINGLE
-from tonebench.binary import add, double_of_whole, floor, fma, less, multiply, negated, not_less
+from tonebench.binary import add, floor, fma, less, multiply, negated, not_less, of_whole
 from tonebench.binary import single_of_double, subtract, told, whole_below
-from tonebench.places import damped, next_height, through_filter, turned
+from tonebench.places import damped, halved, level, next_height, softened, through_filter, turned
 
 # The most places of a row, and the most rows that are mixed.
 MOST = 4096
@@ -60,7 +60,7 @@ def part_above_floor(x):
 
 def between_entries(entries, place):
     """What a table holds at a place, between two entries in a straight line."""
-    x = multiply(DOUBLE, place, double_of_whole(len(entries)))
+    x = multiply(DOUBLE, place, of_whole(DOUBLE, len(entries)))
     f = single_of_double(part_above_floor(x))
     at = whole_below(x) % len(entries)
     u = entries[at]
@@ -130,3 +130,28 @@ def mix(gains, n, rows):
         for place in range(size):
             row[place] = fma(SINGLE, gains[k], rows[k * size + place], row[place])
     return answer([told_singles(row)])
+
+
+def middle(pairs):
+    """Of each pair the middle and half of the difference."""
+    if len(pairs) > MOST:
+        return refusal()
+    row = []
+    for k in range(0, len(pairs), 2):
+        row.append(halved(add(SINGLE, pairs[k], pairs[k + 1])))
+        row.append(halved(subtract(SINGLE, pairs[k], pairs[k + 1])))
+    return answer([told_singles(row)])
+
+
+def soft(row):
+    """Each number of a row bent so that it stays between -1 and 1."""
+    if len(row) > MOST:
+        return refusal()
+    return answer([told_singles([softened(x) for x in row])])
+
+
+def levels(row):
+    """The level of each number of a row."""
+    if len(row) > MOST:
+        return refusal()
+    return answer([told_singles([level(x) for x in row])])
