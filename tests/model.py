@@ -188,8 +188,41 @@ def model_level(x):
     return model_times(model_fma(p, 1.0, e - 1.0), value_of(0x40C0A8C1))
 
 
+def model_gain(x):
+    y = model_times(x, value_of(0x3E2A152D))
+    if not math.isfinite(y):
+        return math.nan
+    k = round(Fraction(y))
+    p = model_horner((0x3C1D955B, 0x3D635847, 0x3E75FDF0, 0x3F317218, 0x3F800000), value_of(single(float(y - k))))
+    if abs(k) > 300:
+        return 0.0 if k < 0 else math.inf
+    return value_of(nearest_single(Fraction(p) * Fraction(2) ** k))
+
+
 def model_curve(curve, row):
     return model_row([curve(value_of(bits)) for bits in row])
+
+
+def model_sizes(row):
+    values = [value_of(bits) for bits in row]
+    sizes = [abs(value) for value in values if not math.isnan(value)]
+    counts = [
+        len(values) - len(sizes), sizes.count(math.inf), len([size for size in sizes if 0.0 < size < 2.0 ** -126]),
+        sizes.count(0.0), len([size for size in sizes if 2.0 ** -126 <= size < math.inf]),
+    ]
+    return [0, 1, model_told(max(sizes, default=0.0)), 5] + counts
+
+
+def model_power(row):
+    sums = [0.0] * 8
+    for place, value in enumerate([value_of(bits) for bits in row]):
+        if math.isfinite(value) and math.isfinite(sums[place % 8]):
+            sums[place % 8] = float(Fraction(value) ** 2 + Fraction(sums[place % 8]))
+        else:
+            sums[place % 8] += value * value
+    even = (sums[0] + sums[4]) + (sums[2] + sums[6])
+    odd = (sums[1] + sums[5]) + (sums[3] + sums[7])
+    return [0, 1, -1 if math.isnan(even + odd) else double(even + odd)]
 
 
 class Numbers:
@@ -220,6 +253,10 @@ class Numbers:
         """A power of two or one near it; or, at the ends, a least or a greatest number, or one past these."""
         beside = self.source.randrange(256) << 23
         return max(beside + self.source.randrange(-2, 3), 0) | self.source.choice((0, MINUS))
+
+    def level(self):
+        """A number from -1024 to 1024, so that gains are met from 0 up to past the greatest."""
+        return self.source.randrange(0x40000000, 0x44800000) | self.source.choice((0, MINUS))
 
     def fraction_double(self):
         """A double from 0 to below 1."""

@@ -3,7 +3,7 @@
 import unittest
 
 from model import INFINITE, MINUS, double, single
-from tonebench.binary import floor, single_of_double, whole_below
+from tonebench.binary import DOUBLE, floor, single_of_double, whole_below
 
 
 class Binary(unittest.TestCase):
@@ -15,7 +15,7 @@ class Binary(unittest.TestCase):
         }
         for value, below in floors.items():
             self.assertEqual(double(below), floor(double(value)), value)
-            self.assertEqual(int(below), whole_below(double(value)), value)
+            self.assertEqual(int(below), whole_below(DOUBLE, double(value)), value)
 
     def test_floor_of_minus_zero_keeps_the_sign(self):
         self.assertEqual(double(-0.0), floor(double(-0.0)))

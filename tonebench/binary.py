@@ -69,6 +69,9 @@ def shifted(m, k):
     """m * 2^k for m not less than 0, as the nearest whole number, ties to even."""
     if k >= 0:
         return m << k
+    # Less than a half is 0, however far below: what follows would have to write out as many digits.
+    if m.bit_length() < -k:
+        return 0
     kept = m >> -k
     rest = m - (kept << -k)
     half = 1 << (-k - 1)
@@ -189,16 +192,22 @@ def not_less(form, x, y):
     return are_numbers(form, x, y) and order(form, x) >= order(form, y)
 
 
-def whole_below(x):
-    """The whole number below a finite double."""
-    m = digits(DOUBLE, x)
-    e = exponent(DOUBLE, x)
+def whole_below(form, x):
+    """The whole number below a finite x."""
+    m = digits(form, x)
+    e = exponent(form, x)
     return m << e if e >= 0 else m >> -e
+
+
+def nearest_whole(form, x):
+    """The whole number nearest to a finite x, ties to even."""
+    size = shifted(abs(digits(form, x)), exponent(form, x))
+    return -size if x & form[MINUS] else size
 
 
 def floor(x):
     """The whole number below a finite double, as a double; a zero keeps its sign."""
-    return rounded(DOUBLE, whole_below(x), 0, x & DOUBLE[MINUS])
+    return rounded(DOUBLE, whole_below(DOUBLE, x), 0, x & DOUBLE[MINUS])
 
 
 def of_whole(form, m):
@@ -210,3 +219,13 @@ def single_of_double(x):
     """A finite double as a single."""
     zero = SINGLE[MINUS] if x & DOUBLE[MINUS] else 0
     return rounded(SINGLE, digits(DOUBLE, x), exponent(DOUBLE, x), zero)
+
+
+def double_of_single(x):
+    """A single as a double."""
+    if is_no_number(SINGLE, x):
+        return no_number(DOUBLE)
+    sign = DOUBLE[MINUS] if x & SINGLE[MINUS] else 0
+    if is_infinite(SINGLE, x):
+        return DOUBLE[INFINITY] | sign
+    return rounded(DOUBLE, digits(SINGLE, x), exponent(SINGLE, x), sign)

@@ -2,12 +2,15 @@
 
 from tonebench.binary import ONE, SINGLE
 from tonebench.binary import add, digits, exponent, finite_quotient, fma, fms, fnma, horner, is_finite, less
-from tonebench.binary import magnitude, multiply, no_number, not_less, of_whole, rounded, subtract
+from tonebench.binary import magnitude, multiply, nearest_whole, no_number, not_less, of_whole, rounded, subtract
 
 HALF = 0x3F000000
 
 LEVEL_FACTORS = (0xBDA0A581, 0x3F2043A5, 0xC0050372, 0x4080EF4D, 0xC01FE505)
 LEVEL_SCALE = 0x40C0A8C1
+
+GAIN_FACTORS = (0x3C1D955B, 0x3D635847, 0x3E75FDF0, 0x3F317218, 0x3F800000)
+GAIN_SCALE = 0x3E2A152D
 
 
 def turned(turning, c, s):
@@ -74,3 +77,14 @@ def level(x):
     m = rounded(SINGLE, size, -power, 0)
     e = of_whole(SINGLE, exponent(SINGLE, x) + power)
     return multiply(SINGLE, add(SINGLE, horner(SINGLE, LEVEL_FACTORS, m), e), LEVEL_SCALE)
+
+
+def gain(x):
+    """The gain of a level; no number of an infinite one, or of no number."""
+    y = multiply(SINGLE, x, GAIN_SCALE)
+    if not is_finite(SINGLE, y):
+        return no_number(SINGLE)
+    k = nearest_whole(SINGLE, y)
+    p = horner(SINGLE, GAIN_FACTORS, subtract(SINGLE, y, of_whole(SINGLE, k)))
+    # 2^k itself may be past the greatest number, or below the least one, where the product isn't.
+    return rounded(SINGLE, digits(SINGLE, p), exponent(SINGLE, p) + k, 0)

@@ -3,7 +3,8 @@
 from tonebench.binary import DOUBLE, ONE, SINGLE
 from tonebench.binary import add, floor, fma, less, multiply, negated, not_less, of_whole
 from tonebench.binary import single_of_double, subtract, told, whole_below
-from tonebench.places import damped, halved, level, next_height, softened, through_filter, turned
+from tonebench.measures import counts_of_kinds, greatest_size, sum_of_squares
+from tonebench.places import damped, gain, halved, level, next_height, softened, through_filter, turned
 
 # The most places of a row, and the most rows that are mixed.
 MOST = 4096
@@ -62,7 +63,7 @@ def between_entries(entries, place):
     """What a table holds at a place, between two entries in a straight line."""
     x = multiply(DOUBLE, place, of_whole(DOUBLE, len(entries)))
     f = single_of_double(part_above_floor(x))
-    at = whole_below(x) % len(entries)
+    at = whole_below(DOUBLE, x) % len(entries)
     u = entries[at]
     w = entries[(at + 1) % len(entries)]
     return fma(SINGLE, f, subtract(SINGLE, w, u), u)
@@ -155,3 +156,24 @@ def levels(row):
     if len(row) > MOST:
         return refusal()
     return answer([told_singles([level(x) for x in row])])
+
+
+def gains(row):
+    """The gain of each level of a row."""
+    if len(row) > MOST:
+        return refusal()
+    return answer([told_singles([gain(x) for x in row])])
+
+
+def sizes(row):
+    """The greatest size of a row's numbers, then how many of it are of each of the five kinds."""
+    if len(row) > MOST:
+        return refusal()
+    return answer([[greatest_size(row)], counts_of_kinds(row)])
+
+
+def power(row):
+    """The sum of the squares of a row, as a double."""
+    if len(row) > MOST:
+        return refusal()
+    return answer([[told(DOUBLE, sum_of_squares(row))]])
