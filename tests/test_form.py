@@ -30,6 +30,10 @@ METHODS = set(
 )
 
 
+# What texts, numbers, lists, dicts, sets and bytes have; no class of the package calls something its own like these.
+TAKEN = set(dir(str) + dir(int) + dir(list) + dir(dict) + dir(set) + dir(bytes) + dir(range))
+
+
 def files():
     return sorted(path for path in PACKAGE.rglob("*") if "__pycache__" not in path.parts)
 
@@ -81,8 +85,25 @@ class Form(unittest.TestCase):
             if hasattr(builtins, node.id):
                 self.assertIn(node.id, ALLOWED_BUILTINS, (name, node.lineno))
                 self.assertIsInstance(node.ctx, ast.Load, (name, node.lineno))
+        own = {node.name for _, kind in nodes(ast.ClassDef) for node in kind.body if isinstance(node, ast.FunctionDef)}
+        own |= {node.attr for _, node in nodes(ast.Attribute) if isinstance(node.ctx, ast.Store)}
+        self.assertEqual({"__init__"}, own & TAKEN)
         for name, node in nodes(ast.Attribute):
-            self.assertIn(node.attr, METHODS, (name, node.lineno))
+            self.assertIn(node.attr, METHODS | own, (name, node.lineno))
+
+    def test_classes(self):
+        methods, values = set(), set()
+        for name, node in nodes(ast.ClassDef):
+            self.assertEqual((0, []), (node.col_offset, node.decorator_list), (name, node.name))
+            for part in node.body:
+                docstring = isinstance(part, ast.Expr) and isinstance(part.value, ast.Constant)
+                self.assertTrue(docstring or isinstance(part, ast.FunctionDef), (name, part.lineno))
+            defs = [part.name for part in node.body if isinstance(part, ast.FunctionDef)]
+            self.assertEqual(len(set(defs)), len(defs), (name, node.name))
+            methods |= set(defs)
+            stored = [part for part in ast.walk(node) if isinstance(getattr(part, "ctx", None), ast.Store)]
+            values |= {part.attr for part in stored if isinstance(part, ast.Attribute)}
+        self.assertEqual(set(), methods & values)
 
     def test_imports(self):
         for name, node in nodes(ast.ImportFrom):

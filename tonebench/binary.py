@@ -205,6 +205,16 @@ def nearest_whole(form, x):
     return -size if x & form[MINUS] else size
 
 
+def whole_above(form, x):
+    """The whole number above a finite x."""
+    return -whole_below(form, negated(form, x))
+
+
+def whole_towards_zero(form, x):
+    """The whole number beside a finite x on the side of 0."""
+    return whole_above(form, x) if x & form[MINUS] else whole_below(form, x)
+
+
 def floor(x):
     """The whole number below a finite double, as a double; a zero keeps its sign."""
     return rounded(DOUBLE, whole_below(DOUBLE, x), 0, x & DOUBLE[MINUS])

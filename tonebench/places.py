@@ -1,8 +1,9 @@
 """What happens at one place of a row: each takes what stands there so far and gives what stands there then."""
 
-from tonebench.binary import ONE, SINGLE
-from tonebench.binary import add, digits, exponent, finite_quotient, fma, fms, fnma, horner, is_finite, less
-from tonebench.binary import magnitude, multiply, nearest_whole, no_number, not_less, of_whole, rounded, subtract
+from tonebench.binary import MINUS, ONE, SINGLE
+from tonebench.binary import add, digits, exponent, finite_quotient, fma, fms, fnma, horner, is_finite, is_infinite
+from tonebench.binary import is_no_number, less, magnitude, multiply, nearest_whole, no_number, not_less, of_whole
+from tonebench.binary import rounded, subtract, whole_above, whole_below, whole_towards_zero
 
 HALF = 0x3F000000
 
@@ -88,3 +89,24 @@ def gain(x):
     p = horner(SINGLE, GAIN_FACTORS, subtract(SINGLE, y, of_whole(SINGLE, k)))
     # 2^k itself may be past the greatest number, or below the least one, where the product isn't.
     return rounded(SINGLE, digits(SINGLE, p), exponent(SINGLE, p) + k, 0)
+
+
+def whole(how, x):
+    """A finite x as a whole number: the nearest, below, above, or towards 0."""
+    if how == 0:
+        return nearest_whole(SINGLE, x)
+    if how == 1:
+        return whole_below(SINGLE, x)
+    if how == 2:
+        return whole_above(SINGLE, x)
+    return whole_towards_zero(SINGLE, x)
+
+
+def held_whole(how, bits, x):
+    """x as a whole number that is held within the signed numbers of so many bits; 0 for no number."""
+    past = 1 << (bits - 1)
+    if is_no_number(SINGLE, x):
+        return 0
+    if is_infinite(SINGLE, x):
+        return -past if x & SINGLE[MINUS] else past - 1
+    return max(-past, min(whole(how, x), past - 1))

@@ -4,11 +4,15 @@ from tonebench.binary import DOUBLE, ONE, SINGLE
 from tonebench.binary import add, floor, fma, less, multiply, negated, not_less, of_whole
 from tonebench.binary import single_of_double, subtract, told, whole_below
 from tonebench.measures import counts_of_kinds, greatest_size, sum_of_squares
-from tonebench.places import damped, gain, halved, level, next_height, softened, through_filter, turned
+from tonebench.places import damped, gain, halved, held_whole, level, next_height, softened, through_filter, turned
+from tonebench.voice import Voice, both_sides
 
-# The most places of a row, and the most rows that are mixed.
+# The most places of a row, the most rows that are mixed, and the most places that voices play at once.
 MOST = 4096
 MOST_ROWS = 32
+MOST_PLAYED = 2048
+
+VOICES = 8
 
 
 def refusal():
@@ -177,3 +181,55 @@ def power(row):
     if len(row) > MOST:
         return refusal()
     return answer([[told(DOUBLE, sum_of_squares(row))]])
+
+
+def wholes(row, scale, how, bits):
+    """Each number of a row times scale as a whole number of so many bits, rounded in one of four ways."""
+    if len(row) > MOST or not 0 <= how[0] <= 3 or not 8 <= bits[0] <= 24:
+        return refusal()
+    return answer([[held_whole(how[0], bits[0], multiply(SINGLE, x, scale[0])) for x in row]])
+
+
+def singles(numbers, scale):
+    """Each whole number as a single, times scale."""
+    if len(numbers) > MOST:
+        return refusal()
+    return answer([told_singles([multiply(SINGLE, of_whole(SINGLE, m), scale[0]) for m in numbers])])
+
+
+def played(players, n):
+    """What the voices play at the next n places: 0, then left and right of each."""
+    if not 0 <= n <= MOST_PLAYED:
+        return refusal()
+    numbers = [0]
+    for place in range(n):
+        numbers.extend(told_singles(both_sides(players)))
+    return numbers
+
+
+def taken(players, step):
+    """What one step is answered: 1 is voice, 2 is on, 3 is off, 4 is play."""
+    if step[0] == 4:
+        return played(players, step[1])
+    if not 0 <= step[1] < VOICES:
+        return refusal()
+    player = players[step[1]]
+    if step[0] == 1:
+        player.set_up(step[2:])
+    elif step[0] == 2:
+        player.begin()
+    else:
+        player.finish()
+    return [0]
+
+
+def voices(steps):
+    """Eight voices, step after step: of each its answer, but for the first with how many numbers it has before it."""
+    players = [Voice() for k in range(VOICES)]
+    numbers = []
+    for k in range(len(steps)):
+        part = taken(players, steps[k])
+        if k > 0:
+            numbers.append(len(part))
+        numbers.extend(part)
+    return numbers

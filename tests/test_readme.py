@@ -1,0 +1,18 @@
+"""The examples of README.md."""
+
+import doctest
+import pathlib
+import unittest
+
+README = pathlib.Path(__file__).resolve().parent.parent / "README.md"
+
+
+class Readme(unittest.TestCase):
+    def test_examples(self):
+        result = doctest.testfile(str(README), module_relative=False, encoding="utf-8")
+        self.assertGreater(result.attempted, 0)
+        self.assertEqual(0, result.failed)
+
+
+if __name__ == "__main__":
+    unittest.main()
