@@ -55,6 +55,10 @@ class Gains(unittest.TestCase):
         self.check([0x411D914F, 0xBE813F2E], [0x4046E05F, 0x3F78AAC3])
         self.check([0x423D8589, 0x41B9985E, 0x41C0A745], [0x4369E505, 0x4167411D, 0x417FFA88])
 
+    def test_the_factor_of_the_highest_power(self):
+        # With this factor's last digit another one, these would be off by one.
+        self.check([0xBF0D337F, 0xBF3BC53C, 0xBF6D2E90], [0x3F703FC0, 0x3F6B450E, 0x3F661971])
+
     def test_gains_past_the_greatest(self):
         # y is just below and at 128.
         self.check([0x4440A8C0, 0x4440A8C1], [0x7F7FFF4F, INFINITE])
